@@ -1,0 +1,110 @@
+"""What the document defines, computed the plain way, without the package."""
+
+from fractions import Fraction
+from math import gcd
+
+BASES = (2, 3, 6, 8, 10, 12, 31, 97, 256, 360, 999, 1000)
+
+
+def numerators(denominator):
+    return [number for number in range(denominator) if gcd(number, denominator) == 1]
+
+
+def fractions_up_to(most):
+    return [(number, denominator) for denominator in range(1, most + 1) for number in numerators(denominator)]
+
+
+def pure_part(base, denominator):
+    divisors = [number for number in range(1, denominator + 1) if denominator % number == 0]
+    return max([number for number in divisors if gcd(number, base) == 1])
+
+
+def period(base, denominator):
+    pure = pure_part(base, denominator)
+    size = 1
+    while pow(base, size, pure) != 1 % pure:
+        size += 1
+    return size
+
+
+def expansion(base, fraction):
+    """Long division until a remainder comes back: the digits from its first time on repeat."""
+    rest, denominator = fraction
+    places = {}
+    digits = []
+    while rest not in places:
+        places[rest] = len(digits)
+        digits.append(base * rest // denominator)
+        rest = base * rest % denominator
+    start = places[rest]
+    return tuple(digits[:start]), tuple(digits[start:])
+
+
+def value(base, digits):
+    return sum([digit * base ** place for place, digit in enumerate(reversed(digits))])
+
+
+def repeated(base, head, digits):
+    """The number that head and then digits, repeated forever, denote."""
+    tail = Fraction(value(base, digits), base ** len(digits) - 1)
+    return (value(base, head) + tail) / base ** len(head)
+
+
+def divisors_from_two(number):
+    return [divisor for divisor in range(2, number + 1) if number % divisor == 0]
+
+
+def all_cuts(base, denominator):
+    """Every cut, also those by which the denominator is not balanced."""
+    if denominator == 1:
+        return []
+    return divisors_from_two(period(base, denominator))
+
+
+def pieces(base, fraction, cut):
+    repetend = expansion(base, fraction)[1]
+    size = len(repetend) // cut
+    return tuple([value(base, repetend[at:at + size]) for at in range(0, len(repetend), size)])
+
+
+def quotient(base, fraction, cut):
+    size = len(expansion(base, fraction)[1]) // cut
+    whole, rest = divmod(sum(pieces(base, fraction, cut)), base ** size - 1)
+    return whole if rest == 0 else None
+
+
+def power_sum(base, denominator, cut):
+    """1 + B ** K + .. + B ** ((D - 1) * K), in full."""
+    size = period(base, denominator) // cut
+    return sum([base ** (size * number) for number in range(cut)])
+
+
+def is_prime(number):
+    return number > 1 and all([number % divisor for divisor in range(2, number)])
+
+
+def prime_powers(number):
+    """The triples of a prime P that divides number, A and P ** A, the highest power that does."""
+    rows = []
+    for prime in range(2, number + 1):
+        if number % prime == 0 and is_prime(prime):
+            exponent = 1
+            while number % prime ** (exponent + 1) == 0:
+                exponent += 1
+            rows.append((prime, exponent, prime ** exponent))
+    return rows
+
+
+def unbalanced_papers(base, denominator, cut):
+    size = period(base, denominator) // cut
+    total = power_sum(base, denominator, cut)
+    return [
+        ("unbalanced", prime, exponent)
+        for prime, exponent, power in prime_powers(denominator)
+        if (base ** size - 1) % prime == 0 and total % power != 0
+    ]
+
+
+def balanced_paper(base, denominator, cut):
+    size = period(base, denominator) // cut
+    return "balanced", tuple([pow(base, size * number, denominator) for number in range(cut)])

@@ -1,0 +1,324 @@
+"""Point 1: how arguments are passed, and which error a wrong one raises."""
+
+import inspect
+import unittest
+
+from tests.case import FAR_INTEGERS, HUGE, NO_INTEGERS, Case, nested
+from wheelnines import digits, numbers, pieces
+from wheelnines.errors import (
+    BadBase,
+    BadDenominator,
+    BadDigits,
+    BadFraction,
+    BadNumber,
+    BadPaper,
+    Nothing,
+    TooGreat,
+)
+
+LAST_PLACE = 10 ** 30
+
+ERRORS = {
+    "base": BadBase,
+    "denominator": BadDenominator,
+    "pure denominator": BadDenominator,
+    "fraction": BadFraction,
+    "pure fraction": BadFraction,
+    "numerator": BadNumber,
+    "digits": BadDigits,
+    "head": BadDigits,
+    "place": BadNumber,
+    "count": BadNumber,
+    "cut": BadNumber,
+    "paper": BadPaper,
+}
+
+BASE_AND_DENOMINATOR = {"base": "base", "denominator": "denominator"}
+PLACE = {"base": "base", "fraction": "fraction", "place": "place"}
+PURE = {"base": "base", "denominator": "pure denominator"}
+PURE_CUT = {**PURE, "cut": "cut"}
+FRACTION_CUT = {"base": "base", "fraction": "pure fraction", "cut": "cut"}
+
+# A function, the kinds of its parameters, and good arguments: the base is 10, cuts are those of 7.
+FUNCTIONS = (
+    (numbers.need_base, {"value": "base"}, (10,)),
+    (numbers.need_denominator, {"value": "denominator"}, (7,)),
+    (numbers.need_fraction, {"value": "fraction"}, ((1, 7),)),
+    (numbers.reduced, {"numerator": "numerator", "denominator": "denominator"}, (-6, 21)),
+    (numbers.pure_part, BASE_AND_DENOMINATOR, (10, 28)),
+    (numbers.period, BASE_AND_DENOMINATOR, (10, 28)),
+    (numbers.head_size, BASE_AND_DENOMINATOR, (10, 28)),
+    (digits.need_digits, {"base": "base", "value": "digits"}, (10, (1, 9))),
+    (digits.value_of, {"base": "base", "digits": "digits"}, (10, (1, 9))),
+    (digits.expansion, {"base": "base", "fraction": "fraction"}, (10, (5, 28))),
+    (digits.remainder_at, PLACE, (10, (5, 28), 3)),
+    (digits.digit_at, PLACE, (10, (5, 28), 3)),
+    (digits.digits_from, {**PLACE, "count": "count"}, (10, (5, 28), 1, 6)),
+    (digits.fraction_of, {"base": "base", "head": "head", "digits": "digits"}, (10, (1,), (6, 3))),
+    (pieces.pieces, FRACTION_CUT, (10, (2, 7), 3)),
+    (pieces.quotient, FRACTION_CUT, (10, (2, 7), 3)),
+    (pieces.is_balanced, PURE_CUT, (10, 7, 3)),
+    (pieces.balance_paper, PURE_CUT, (10, 7, 3)),
+    (pieces.check_balance, {**PURE_CUT, "paper": "paper"}, (10, 7, 3, ("balanced", (1, 2, 4)))),
+    (pieces.cuts, PURE, (10, 7)),
+    (pieces.least_cuts, PURE, (10, 7)),
+    (pieces.quotients, PURE_CUT, (10, 7, 3)),
+)
+
+NO_FRACTIONS = (
+    *[value for value in NO_INTEGERS if value != (1, 7)],
+    *FAR_INTEGERS,
+    7,
+    "1/7",
+    [1, 7],
+    (1,),
+    (1, 7, 1),
+    (1, 7, 7, 7),
+    ((1, 7),),
+    ((1, 7), 7),
+    (1, (7,)),
+    ([1], [7]),
+    ("1", 7),
+    (1, "7"),
+    (b"1", 7),
+    (None, 7),
+    (1, None),
+    (None, None),
+    (True, 7),
+    (1, True),
+    (False, 1),
+    (0, True),
+    (False, True),
+    (-1, 7),
+    (7, 7),
+    (8, 7),
+    (1, 1),
+    (1, 0),
+    (0, 0),
+    (-1, -7),
+    (1, -7),
+    (0, -1),
+    (0, 2),
+    (0, 7),
+    (2, 4),
+    (3, 9),
+    (35, 49),
+    (1, 5001),
+    (5000, 5001),
+    (1, HUGE),
+    (HUGE, 7),
+    (-HUGE, 7),
+    (HUGE, HUGE),
+    {1: 7, 7: 1},
+    {0, 1},
+    range(0, 2),
+)
+
+NO_HEADS = (
+    *[value for value in NO_INTEGERS if value not in ((), (7,), (1, 7))],
+    *FAR_INTEGERS,
+    7,
+    "142857",
+    b"142857",
+    [1, 4, 2],
+    (10,),
+    (-1,),
+    (1, 2, 10),
+    (10, 1, 2),
+    (1, -1, 2),
+    (1, True),
+    (False,),
+    (1, None),
+    (None,),
+    ("1",),
+    (1, "2"),
+    ((1,), 2),
+    (1, (2,)),
+    ([1],),
+    (1, HUGE),
+    (-HUGE,),
+    (0,) * 401,
+    (9,) * 401,
+    (1,) * 5000,
+    range(5),
+    {1: 2},
+)
+
+ODD_INTEGERS = NO_INTEGERS + FAR_INTEGERS
+
+WRONG = {
+    "base": ODD_INTEGERS + (0, 1, 1001, 1002, 5000),
+    "denominator": ODD_INTEGERS + (0, 5001, 5002, 10000),
+    "pure denominator": ODD_INTEGERS + (0, 5001, 5003, 2, 4, 5, 6, 10, 14, 35, 70, 4998, 5000),
+    "fraction": NO_FRACTIONS,
+    "pure fraction": NO_FRACTIONS + ((1, 2), (1, 5), (3, 10), (1, 14), (1, 35), (13, 14), (1, 5000), (2499, 4998)),
+    "numerator": NO_INTEGERS,
+    "digits": NO_HEADS + ((),),
+    "head": NO_HEADS,
+    "place": ODD_INTEGERS + (LAST_PLACE + 1, LAST_PLACE + 2, 2 * LAST_PLACE),
+    "count": ODD_INTEGERS + (401, 402, LAST_PLACE),
+    "cut": ODD_INTEGERS + (0, 1, 4, 5, 7, 8, 9, 12, 18, 600),
+}
+
+# For pairs of wrong arguments: of each kind one value that is no integer and some that nearly fit.
+SOME_WRONG = {
+    "base": (True, "10", 1, 1001),
+    "denominator": (False, None, 0, 5001),
+    "pure denominator": (False, None, 0, 5001, 14),
+    "fraction": ([1, 7], (2, 4), (1, 5001)),
+    "pure fraction": ([1, 7], (2, 4), (1, 14)),
+    "numerator": (True, "7"),
+    "digits": ((), (10,), [1], (1,) * 401),
+    "head": (None, (10,), [1], (1,) * 401),
+    "place": (None, -1, LAST_PLACE + 1),
+    "count": ("6", -1, 401),
+    "cut": ((2,), 1, 4, 12),
+    "paper": (None, ("balanced",), ("balanced", (1, 2, 5)), ("unbalanced", 7, 1)),
+}
+
+
+def replaced(args, at, value):
+    return args[:at] + (value,) + args[at + 1:]
+
+
+class Passing(Case):
+    def test_names_of_the_parameters(self):
+        for function, parameters, _ in FUNCTIONS:
+            self.assertEqual(list(inspect.signature(function).parameters), list(parameters), function.__name__)
+
+    def test_defined_in_its_file(self):
+        homes = {numbers: FUNCTIONS[:7], digits: FUNCTIONS[7:14], pieces: FUNCTIONS[14:]}
+        for module, rows in homes.items():
+            for function, _, _ in rows:
+                self.assertEqual(function.__module__, module.__name__, function.__name__)
+
+    def test_by_position_and_by_name(self):
+        for function, parameters, args in FUNCTIONS:
+            expected = function(*args)
+            named = dict(zip(parameters, args))
+            self.same(function(**named), expected)
+            self.same(function(**dict(reversed(list(named.items())))), expected)
+            for many in range(len(args)):
+                rest = dict(list(named.items())[many:])
+                self.same(function(*args[:many], **rest), expected)
+
+    def test_equal_calls_return_equal_results(self):
+        for function, _, args in FUNCTIONS:
+            first = function(*args)
+            for other, _, others in FUNCTIONS:
+                other(*others)
+            self.same(function(*args), first)
+
+    def test_equal_calls_after_errors(self):
+        for function, parameters, args in FUNCTIONS:
+            first = function(*args)
+            for at, kind in enumerate(parameters.values()):
+                for value in SOME_WRONG[kind]:
+                    with self.assertRaises((ValueError, LookupError, OverflowError)):
+                        function(*replaced(args, at, value))
+            self.same(function(*args), first)
+
+    def test_arguments_are_not_changed(self):
+        paper = ["balanced", [1, 2, 4]]
+        self.fails(BadPaper, "form", pieces.check_balance, 10, 7, 3, paper)
+        self.assertEqual(paper, ["balanced", [1, 2, 4]])
+        remainders = [1, 2, 4]
+        self.fails(BadPaper, "balanced", pieces.check_balance, 10, 7, 3, ("balanced", remainders))
+        self.assertEqual(remainders, [1, 2, 4])
+        fraction = [2, 14]
+        self.fails(BadFraction, [2, 14], numbers.need_fraction, fraction)
+        self.assertEqual(fraction, [2, 14])
+
+
+class WrongArguments(Case):
+    def test_one_wrong_argument(self):
+        for function, parameters, args in FUNCTIONS:
+            for at, kind in enumerate(parameters.values()):
+                for value in WRONG.get(kind, ()):
+                    self.fails(ERRORS[kind], value, function, *replaced(args, at, value))
+
+    def test_one_wrong_argument_by_name(self):
+        for function, parameters, args in FUNCTIONS:
+            for name, kind in parameters.items():
+                for value in WRONG.get(kind, ()):
+                    self.fails(ERRORS[kind], value, function, **{**dict(zip(parameters, args)), name: value})
+
+    def test_the_error_of_the_earliest_wrong_argument(self):
+        for function, parameters, args in FUNCTIONS:
+            listed = list(parameters.values())
+            for at, kind in enumerate(listed):
+                for later in range(at + 1, len(listed)):
+                    for value in SOME_WRONG[kind]:
+                        for other in SOME_WRONG[listed[later]]:
+                            both = replaced(replaced(args, at, value), later, other)
+                            self.fails(ERRORS[kind], value, function, *both)
+
+    def test_all_arguments_wrong_from_one_on(self):
+        for function, parameters, args in FUNCTIONS:
+            listed = list(parameters.values())
+            for at, kind in enumerate(listed):
+                wrong = args[:at] + tuple([SOME_WRONG[other][0] for other in listed[at:]])
+                kept = "form" if kind == "paper" else wrong[at]
+                self.fails(ERRORS[kind], kept, function, *wrong)
+
+    def test_the_earliest_one_also_by_name_in_another_order(self):
+        for function, parameters, args in FUNCTIONS:
+            listed = list(parameters.items())
+            for at, (_, kind) in enumerate(listed):
+                wrong = args[:at] + tuple([SOME_WRONG[other][0] for _, other in listed[at:]])
+                named = dict(reversed(list(zip(parameters, wrong))))
+                kept = "form" if kind == "paper" else wrong[at]
+                self.fails(ERRORS[kind], kept, function, **named)
+
+
+class ConditionsTogetherWithEarlierArguments(Case):
+    def test_digits_of_the_base(self):
+        self.same(digits.need_digits(10, (9,)), (9,))
+        self.fails(BadDigits, (9,), digits.need_digits, 9, (9,))
+        self.fails(BadDigits, (9,), digits.value_of, 9, (9,))
+        self.same(digits.value_of(3, (2, 2)), 8)
+        self.fails(BadDigits, (2, 2), digits.value_of, 2, (2, 2))
+        self.fails(BadDigits, (2,), digits.fraction_of, 2, (2,), (2, 3))
+        self.fails(BadDigits, (2, 3), digits.fraction_of, 3, (2,), (2, 3))
+        self.fails(BadDigits, (1000,), digits.need_digits, 1000, (1000,))
+
+    def test_pure_comes_before_the_cut(self):
+        for cut in ("no cut", 4, 6):
+            self.fails(BadDenominator, 14, pieces.is_balanced, 10, 14, cut)
+            self.fails(BadDenominator, 14, pieces.balance_paper, 10, 14, cut)
+            self.fails(BadDenominator, 14, pieces.check_balance, 10, 14, cut, None)
+            self.fails(BadDenominator, 14, pieces.quotients, 10, 14, cut)
+            self.fails(BadFraction, (1, 14), pieces.pieces, 10, (1, 14), cut)
+            self.fails(BadFraction, (1, 14), pieces.quotient, 10, (1, 14), cut)
+
+    def test_pure_depends_on_the_base(self):
+        self.same(pieces.cuts(3, 14), (2, 6))
+        self.fails(BadDenominator, 14, pieces.cuts, 10, 14)
+        self.fails(BadDenominator, 7, pieces.cuts, 14, 7)
+        self.fails(BadDenominator, 7, pieces.least_cuts, 7, 7)
+
+    def test_cuts_depend_on_the_base(self):
+        self.same(pieces.is_balanced(10, 7, 6), True)
+        self.fails(BadNumber, 6, pieces.is_balanced, 9, 7, 6)
+        self.fails(BadNumber, 2, pieces.is_balanced, 8, 7, 2)
+        self.same(pieces.is_balanced(9, 7, 3), True)
+
+    def test_errors_of_results_come_last(self):
+        self.fails(Nothing, (9,), digits.fraction_of, 10, (9,), (9,))
+        self.fails(BadDigits, (9, 10), digits.fraction_of, 10, (9,), (9, 10))
+        self.fails(TooGreat, 5000, digits.fraction_of, 10, (), (0, 0, 0, 1))
+        self.fails(BadDigits, [0, 0, 0, 1], digits.fraction_of, 10, (), [0, 0, 0, 1])
+        self.fails(Nothing, 2, pieces.quotients, 10, 63, 2)
+        self.fails(BadNumber, 4, pieces.quotients, 10, 63, 4)
+
+    def test_deep_values(self):
+        for shell in (tuple, list):
+            deep = nested(20, shell)
+            self.fails(BadBase, deep, numbers.need_base, deep)
+            self.fails(BadFraction, (deep, 7), numbers.need_fraction, (deep, 7))
+            self.fails(BadDigits, (1, deep), digits.need_digits, 10, (1, deep))
+            self.fails(BadPaper, "balanced", pieces.check_balance, 10, 7, 3, ("balanced", deep))
+
+
+if __name__ == "__main__":
+    unittest.main()

@@ -1,0 +1,1 @@
+"""Wheelnines: repeating digits, cut into equal pieces."""
