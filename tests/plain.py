@@ -108,3 +108,49 @@ def unbalanced_papers(base, denominator, cut):
 def balanced_paper(base, denominator, cut):
     size = period(base, denominator) // cut
     return "balanced", tuple([pow(base, size * number, denominator) for number in range(cut)])
+
+
+def rotated(digits, by):
+    row = list(digits)
+    for _ in range(by):
+        row.append(row.pop(0))
+    return tuple(row)
+
+
+def wheel(base, fraction):
+    """The remainders until the first one comes back."""
+    rests = [fraction[0]]
+    while base * rests[-1] % fraction[1] != rests[0]:
+        rests.append(base * rests[-1] % fraction[1])
+    return tuple(rests)
+
+
+def wheels(base, denominator):
+    return tuple(sorted({min(wheel(base, (number, denominator))) for number in numerators(denominator)}))
+
+
+def rotation(base, fraction, other):
+    repetend = expansion(base, fraction)[1]
+    wanted = expansion(base, other)[1]
+    steps = [by for by in range(len(repetend)) if rotated(repetend, by) == wanted]
+    return steps[0] if steps else None
+
+
+def all_turned(base, digits):
+    """The values of all rotations."""
+    powers = [base ** place for place in range(len(digits))]
+    rows = [rotated(digits, by) for by in range(len(digits))]
+    return [sum([digit * power for digit, power in zip(reversed(row), powers)]) for row in rows]
+
+
+def multipliers(base, digits):
+    number = value(base, digits)
+    return tuple(sorted({other // number for other in all_turned(base, digits) if other % number == 0}))
+
+
+def is_cyclic(base, digits):
+    if len(digits) < 2 or not any(digits):
+        return False
+    number = value(base, digits)
+    turned = all_turned(base, digits)
+    return all([many * number in turned for many in range(1, len(digits) + 1)])

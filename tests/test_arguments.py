@@ -4,7 +4,7 @@ import inspect
 import unittest
 
 from tests.case import FAR_INTEGERS, HUGE, NO_INTEGERS, Case, nested
-from wheelnines import digits, numbers, pieces
+from wheelnines import cyclic, dial, digits, numbers, pieces, texts, wheels
 from wheelnines.errors import (
     BadBase,
     BadDenominator,
@@ -12,6 +12,7 @@ from wheelnines.errors import (
     BadFraction,
     BadNumber,
     BadPaper,
+    BadText,
     Nothing,
     TooGreat,
 )
@@ -31,13 +32,23 @@ ERRORS = {
     "count": BadNumber,
     "cut": BadNumber,
     "paper": BadPaper,
+    "by": BadNumber,
+    "pure other": BadFraction,
+    "most": BadNumber,
+    "string": BadText,
 }
+
+# What an error keeps, if that is not the wrong value itself.
+KEPT = {"paper": "form", "string": None}
 
 BASE_AND_DENOMINATOR = {"base": "base", "denominator": "denominator"}
 PLACE = {"base": "base", "fraction": "fraction", "place": "place"}
 PURE = {"base": "base", "denominator": "pure denominator"}
 PURE_CUT = {**PURE, "cut": "cut"}
 FRACTION_CUT = {"base": "base", "fraction": "pure fraction", "cut": "cut"}
+BASE_AND_FRACTION = {"base": "base", "fraction": "fraction"}
+BASE_AND_DIGITS = {"base": "base", "digits": "digits"}
+WHEEL = {"base": "base", "fraction": "pure fraction"}
 
 # A function, the kinds of its parameters, and good arguments: the base is 10, cuts are those of 7.
 FUNCTIONS = (
@@ -49,8 +60,8 @@ FUNCTIONS = (
     (numbers.period, BASE_AND_DENOMINATOR, (10, 28)),
     (numbers.head_size, BASE_AND_DENOMINATOR, (10, 28)),
     (digits.need_digits, {"base": "base", "value": "digits"}, (10, (1, 9))),
-    (digits.value_of, {"base": "base", "digits": "digits"}, (10, (1, 9))),
-    (digits.expansion, {"base": "base", "fraction": "fraction"}, (10, (5, 28))),
+    (digits.value_of, BASE_AND_DIGITS, (10, (1, 9))),
+    (digits.expansion, BASE_AND_FRACTION, (10, (5, 28))),
     (digits.remainder_at, PLACE, (10, (5, 28), 3)),
     (digits.digit_at, PLACE, (10, (5, 28), 3)),
     (digits.digits_from, {**PLACE, "count": "count"}, (10, (5, 28), 1, 6)),
@@ -63,7 +74,33 @@ FUNCTIONS = (
     (pieces.cuts, PURE, (10, 7)),
     (pieces.least_cuts, PURE, (10, 7)),
     (pieces.quotients, PURE_CUT, (10, 7, 3)),
+    (wheels.rotated, {**BASE_AND_DIGITS, "by": "by"}, (10, (1, 9, 8), 4)),
+    (wheels.wheel, WHEEL, (10, (2, 7))),
+    (wheels.wheels, PURE, (10, 13)),
+    (wheels.rotation, {**WHEEL, "other": "pure other"}, (10, (1, 7), (4, 7))),
+    (cyclic.multipliers, BASE_AND_DIGITS, (10, (0, 1, 0, 1))),
+    (cyclic.is_cyclic, BASE_AND_DIGITS, (10, (0, 1, 0, 1))),
+    (cyclic.cyclic_denominators, {"base": "base", "most": "most"}, (10, 30)),
+    (dial.Dial, BASE_AND_FRACTION, (10, (5, 28))),
+    (texts.fraction_text, {"fraction": "fraction"}, ((5, 28),)),
+    (texts.read_fraction, {"string": "string"}, ("5/28",)),
+    (texts.expansion_text, BASE_AND_FRACTION, (10, (5, 28))),
+    (texts.read_expansion, {"base": "base", "string": "string"}, (10, "1 ( 7 8 5 )")),
 )
+
+HOMES = {
+    numbers: ("need_base", "need_denominator", "need_fraction", "reduced", "pure_part", "period", "head_size"),
+    digits: (
+        "need_digits", "value_of", "expansion", "remainder_at", "digit_at", "digits_from", "fraction_of",
+    ),
+    pieces: (
+        "pieces", "quotient", "is_balanced", "balance_paper", "check_balance", "cuts", "least_cuts", "quotients",
+    ),
+    wheels: ("rotated", "wheel", "wheels", "rotation"),
+    cyclic: ("multipliers", "is_cyclic", "cyclic_denominators"),
+    dial: ("Dial",),
+    texts: ("fraction_text", "read_fraction", "expansion_text", "read_expansion"),
+}
 
 NO_FRACTIONS = (
     *[value for value in NO_INTEGERS if value != (1, 7)],
@@ -146,18 +183,24 @@ NO_HEADS = (
 
 ODD_INTEGERS = NO_INTEGERS + FAR_INTEGERS
 
+NO_PURE_FRACTIONS = NO_FRACTIONS + ((1, 2), (1, 5), (3, 10), (1, 14), (1, 35), (13, 14), (1, 5000), (2499, 4998))
+
 WRONG = {
     "base": ODD_INTEGERS + (0, 1, 1001, 1002, 5000),
     "denominator": ODD_INTEGERS + (0, 5001, 5002, 10000),
     "pure denominator": ODD_INTEGERS + (0, 5001, 5003, 2, 4, 5, 6, 10, 14, 35, 70, 4998, 5000),
     "fraction": NO_FRACTIONS,
-    "pure fraction": NO_FRACTIONS + ((1, 2), (1, 5), (3, 10), (1, 14), (1, 35), (13, 14), (1, 5000), (2499, 4998)),
+    "pure fraction": NO_PURE_FRACTIONS,
+    "pure other": NO_PURE_FRACTIONS + ((0, 1), (1, 3), (2, 13), (1, 21), (1, 49), (4998, 4999)),
     "numerator": NO_INTEGERS,
     "digits": NO_HEADS + ((),),
     "head": NO_HEADS,
     "place": ODD_INTEGERS + (LAST_PLACE + 1, LAST_PLACE + 2, 2 * LAST_PLACE),
     "count": ODD_INTEGERS + (401, 402, LAST_PLACE),
     "cut": ODD_INTEGERS + (0, 1, 4, 5, 7, 8, 9, 12, 18, 600),
+    "by": ODD_INTEGERS + (LAST_PLACE + 1, LAST_PLACE + 2, 2 * LAST_PLACE),
+    "most": ODD_INTEGERS + (0, 401, 402, 5000),
+    "string": (*[value for value in ODD_INTEGERS if not isinstance(value, str)], 0, 7, ("1/7",), ["( 1 )"], b"1/7"),
 }
 
 # For pairs of wrong arguments: of each kind one value that is no integer and some that nearly fit.
@@ -174,6 +217,10 @@ SOME_WRONG = {
     "count": ("6", -1, 401),
     "cut": ((2,), 1, 4, 12),
     "paper": (None, ("balanced",), ("balanced", (1, 2, 5)), ("unbalanced", 7, 1)),
+    "by": (None, True, -1, LAST_PLACE + 1),
+    "pure other": ([1, 7], (2, 4), (1, 14), (1, 13)),
+    "most": (None, False, 0, 401),
+    "string": (None, 7, b"1/7"),
 }
 
 
@@ -187,10 +234,10 @@ class Passing(Case):
             self.assertEqual(list(inspect.signature(function).parameters), list(parameters), function.__name__)
 
     def test_defined_in_its_file(self):
-        homes = {numbers: FUNCTIONS[:7], digits: FUNCTIONS[7:14], pieces: FUNCTIONS[14:]}
-        for module, rows in homes.items():
-            for function, _, _ in rows:
-                self.assertEqual(function.__module__, module.__name__, function.__name__)
+        for module, names in HOMES.items():
+            for name in names:
+                self.assertEqual(getattr(module, name).__module__, module.__name__, name)
+        self.assertEqual(sum([len(names) for names in HOMES.values()]), len(FUNCTIONS))
 
     def test_by_position_and_by_name(self):
         for function, parameters, args in FUNCTIONS:
@@ -235,13 +282,14 @@ class WrongArguments(Case):
         for function, parameters, args in FUNCTIONS:
             for at, kind in enumerate(parameters.values()):
                 for value in WRONG.get(kind, ()):
-                    self.fails(ERRORS[kind], value, function, *replaced(args, at, value))
+                    self.fails(ERRORS[kind], KEPT.get(kind, value), function, *replaced(args, at, value))
 
     def test_one_wrong_argument_by_name(self):
         for function, parameters, args in FUNCTIONS:
             for name, kind in parameters.items():
                 for value in WRONG.get(kind, ()):
-                    self.fails(ERRORS[kind], value, function, **{**dict(zip(parameters, args)), name: value})
+                    named = {**dict(zip(parameters, args)), name: value}
+                    self.fails(ERRORS[kind], KEPT.get(kind, value), function, **named)
 
     def test_the_error_of_the_earliest_wrong_argument(self):
         for function, parameters, args in FUNCTIONS:
@@ -251,15 +299,14 @@ class WrongArguments(Case):
                     for value in SOME_WRONG[kind]:
                         for other in SOME_WRONG[listed[later]]:
                             both = replaced(replaced(args, at, value), later, other)
-                            self.fails(ERRORS[kind], value, function, *both)
+                            self.fails(ERRORS[kind], KEPT.get(kind, value), function, *both)
 
     def test_all_arguments_wrong_from_one_on(self):
         for function, parameters, args in FUNCTIONS:
             listed = list(parameters.values())
             for at, kind in enumerate(listed):
                 wrong = args[:at] + tuple([SOME_WRONG[other][0] for other in listed[at:]])
-                kept = "form" if kind == "paper" else wrong[at]
-                self.fails(ERRORS[kind], kept, function, *wrong)
+                self.fails(ERRORS[kind], KEPT.get(kind, wrong[at]), function, *wrong)
 
     def test_the_earliest_one_also_by_name_in_another_order(self):
         for function, parameters, args in FUNCTIONS:
@@ -267,8 +314,7 @@ class WrongArguments(Case):
             for at, (_, kind) in enumerate(listed):
                 wrong = args[:at] + tuple([SOME_WRONG[other][0] for _, other in listed[at:]])
                 named = dict(reversed(list(zip(parameters, wrong))))
-                kept = "form" if kind == "paper" else wrong[at]
-                self.fails(ERRORS[kind], kept, function, **named)
+                self.fails(ERRORS[kind], KEPT.get(kind, wrong[at]), function, **named)
 
 
 class ConditionsTogetherWithEarlierArguments(Case):
@@ -303,7 +349,30 @@ class ConditionsTogetherWithEarlierArguments(Case):
         self.fails(BadNumber, 2, pieces.is_balanced, 8, 7, 2)
         self.same(pieces.is_balanced(9, 7, 3), True)
 
+    def test_of_one_fraction_the_error_that_is_listed_first(self):
+        # All of them are BadFraction of the same value: not a fraction, not pure, another denominator.
+        for other in ((2, 4), (1, 14), (1, 13)):
+            self.fails(BadFraction, (1, 14), wheels.rotation, 10, (1, 14), other)
+            self.fails(BadFraction, other, wheels.rotation, 10, (1, 7), other)
+        self.fails(BadFraction, (1, 7), wheels.rotation, 7, (1, 7), (2, 7))
+        self.fails(BadFraction, (1, 7), wheels.wheel, 14, (1, 7))
+        self.fails(BadDenominator, 7, wheels.wheels, 7, 7)
+
+    def test_digits_of_the_base_in_wheels_and_texts(self):
+        self.fails(BadDigits, (9,), wheels.rotated, 9, (9,), -1)
+        self.fails(BadNumber, -1, wheels.rotated, 10, (9,), -1)
+        self.fails(BadDigits, (0, 2), cyclic.multipliers, 2, (0, 2))
+        self.fails(BadDigits, (0, 2), cyclic.is_cyclic, 2, (0, 2))
+        self.fails(BadText, 0, texts.read_expansion, 9, "9 ( 1 )")
+        self.same(texts.read_expansion(10, "9 ( 0 )"), (9, 10))
+
     def test_errors_of_results_come_last(self):
+        self.fails(BadBase, 1, cyclic.multipliers, 1, (0,))
+        self.fails(Nothing, (0,), cyclic.multipliers, 2, (0,))
+        self.fails(BadBase, None, texts.read_expansion, None, "( 9 )")
+        self.fails(Nothing, (9,), texts.read_expansion, 10, "( 9 )")
+        self.fails(BadText, 3, texts.read_expansion, 10, "( 9 ) ")
+        self.fails(TooGreat, 5000, texts.read_expansion, 10, "( 0 0 0 1 )")
         self.fails(Nothing, (9,), digits.fraction_of, 10, (9,), (9,))
         self.fails(BadDigits, (9, 10), digits.fraction_of, 10, (9,), (9, 10))
         self.fails(TooGreat, 5000, digits.fraction_of, 10, (), (0, 0, 0, 1))

@@ -23,6 +23,23 @@ LIBRARY = {
     "__future__": {"annotations"},
 }
 
+METHODS = set(
+    "append clear copy count endswith extend find get index insert isalnum isalpha isdigit islower isspace isupper"
+    " items join keys ljust lower lstrip partition pop remove replace reverse rfind rjust rpartition rsplit rstrip"
+    " setdefault split splitlines startswith strip update upper values zfill bit_length isascii isdecimal".split()
+)
+
+SPECIAL = set(
+    "__init__ __eq__ __repr__ __str__ __len__ __enter__ __exit__ __call__ __iter__ __lt__ __le__ __gt__ __ge__"
+    " __ne__ __bool__ __contains__ __add__ __sub__ __mul__ __neg__".split()
+)
+
+NOWHERE = {
+    "register", "mro", "elements", "open", "input", "law", "version_info", "with_traceback", "add_note", "type",
+    "typing", "enum", "Enum", "Generic", "Protocol", "namedtuple", "NamedTuple", "abstractmethod", "dataclass",
+    "overload", "contextmanager",
+}
+
 
 def files():
     return sorted(PACKAGE.rglob("*.py"))
@@ -39,7 +56,7 @@ def nodes(kind):
 class Files(unittest.TestCase):
     def test_there_is_a_package(self):
         self.assertTrue((PACKAGE / "__init__.py").is_file())
-        for name in ("errors", "numbers", "digits", "pieces"):
+        for name in ("errors", "numbers", "digits", "pieces", "wheels", "cyclic", "dial", "texts"):
             self.assertTrue((PACKAGE / f"{name}.py").is_file())
 
     def test_nothing_else_in_the_folder(self):
@@ -99,6 +116,53 @@ class Words(unittest.TestCase):
         for path, node in nodes(ast.BinOp):
             if isinstance(node.op, ast.Pow) and isinstance(node.left, ast.Constant) and node.left.value == 2:
                 self.assertIsInstance(node.right, ast.Constant, f"{path}:{node.lineno}")
+
+
+class Names(unittest.TestCase):
+    def test_no_name_of_a_builtin_is_given_another_meaning(self):
+        for path, name, line in self.bound():
+            self.assertNotIn(name, dir(builtins), f"{path}:{line}")
+            self.assertNotIn(name, NOWHERE, f"{path}:{line}")
+
+    def bound(self):
+        rows = [(path, node.arg, node.lineno) for path, node in nodes(ast.arg)]
+        for path, node in nodes(ast.Name):
+            if isinstance(node.ctx, ast.Store):
+                rows.append((path, node.id, node.lineno))
+        return rows + [(path, node.name, node.lineno) for path, node in nodes((ast.FunctionDef, ast.ClassDef))]
+
+    def test_no_variable_has_the_name_of_an_import_or_a_class(self):
+        for path, tree in trees():
+            taken = {name.name for node in ast.walk(tree) if isinstance(node, ast.ImportFrom) for name in node.names}
+            taken |= {node.name for node in ast.walk(tree) if isinstance(node, ast.ClassDef)}
+            for node in ast.walk(tree):
+                if isinstance(node, ast.arg):
+                    self.assertNotIn(node.arg, taken, f"{path}:{node.lineno}")
+                if isinstance(node, ast.Name) and isinstance(node.ctx, ast.Store):
+                    self.assertNotIn(node.id, taken, f"{path}:{node.lineno}")
+
+    def test_methods_that_are_called(self):
+        own = {node.name for _, node in nodes(ast.FunctionDef)}
+        for path, node in nodes(ast.Call):
+            if isinstance(node.func, ast.Attribute):
+                self.assertIn(node.func.attr, METHODS | own, f"{path}:{node.lineno}")
+
+    def test_double_underscore_methods_and_decorators(self):
+        for path, node in nodes(ast.FunctionDef):
+            if node.name.startswith("__"):
+                self.assertIn(node.name, SPECIAL, f"{path}:{node.lineno}")
+            for row in node.decorator_list:
+                self.assertIn(ast.unparse(row), ("property",), f"{path}:{node.lineno}")
+
+    def test_sets_are_only_sorted_or_measured(self):
+        places = set()
+        for path, node in nodes(ast.Call):
+            if isinstance(node.func, ast.Name) and node.func.id in ("sorted", "len"):
+                places |= {(path, arg.lineno, arg.col_offset) for arg in node.args}
+        for path, node in nodes((ast.Call, ast.Set, ast.SetComp)):
+            if isinstance(node, ast.Call) and not (isinstance(node.func, ast.Name) and node.func.id == "set"):
+                continue
+            self.assertIn((path, node.lineno, node.col_offset), places)
 
 
 if __name__ == "__main__":
