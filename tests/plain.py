@@ -154,3 +154,39 @@ def is_cyclic(base, digits):
     number = value(base, digits)
     turned = all_turned(base, digits)
     return all([many * number in turned for many in range(1, len(digits) + 1)])
+
+
+def quick_period(base, denominator):
+    """The period of a pure denominator, from power to power."""
+    rest = base % denominator
+    size = 1
+    while rest != 1 % denominator:
+        rest = rest * base % denominator
+        size += 1
+    return size
+
+
+def lengths(denominator):
+    """The length of each RESIDUE, going from power to power for each one."""
+    return {residue: quick_period(residue, denominator) for residue in numerators(denominator)}
+
+
+def period_paper(base, denominator):
+    size = period(base, denominator)
+    pure = pure_part(base, denominator)
+    return size, tuple([(prime, base ** (size // prime) % pure) for prime, _, _ in prime_powers(size)])
+
+
+def sum_of(one, two):
+    total = (Fraction(*one) + Fraction(*two)) % 1
+    return total.numerator, total.denominator
+
+
+def sum_denominators(one, two):
+    """The denominators of all sums, tried one by one; also those that are no DENOMINATORS."""
+    found = set()
+    for first in numerators(one):
+        for second in numerators(two):
+            total = first * two + second * one
+            found.add(one * two // gcd(total, one * two))
+    return tuple(sorted(found))

@@ -4,7 +4,7 @@ import inspect
 import unittest
 
 from tests.case import FAR_INTEGERS, HUGE, NO_INTEGERS, Case, nested
-from wheelnines import cyclic, dial, digits, numbers, pieces, texts, wheels
+from wheelnines import cyclic, dial, digits, lengths, numbers, pieces, residues, sums, texts, wheels
 from wheelnines.errors import (
     BadBase,
     BadDenominator,
@@ -36,10 +36,13 @@ ERRORS = {
     "pure other": BadFraction,
     "most": BadNumber,
     "string": BadText,
+    "length": BadNumber,
+    "most denominator": BadNumber,
+    "period paper": BadPaper,
 }
 
 # What an error keeps, if that is not the wrong value itself.
-KEPT = {"paper": "form", "string": None}
+KEPT = {"paper": "form", "string": None, "period paper": "form"}
 
 BASE_AND_DENOMINATOR = {"base": "base", "denominator": "denominator"}
 PLACE = {"base": "base", "fraction": "fraction", "place": "place"}
@@ -49,6 +52,8 @@ FRACTION_CUT = {"base": "base", "fraction": "pure fraction", "cut": "cut"}
 BASE_AND_FRACTION = {"base": "base", "fraction": "fraction"}
 BASE_AND_DIGITS = {"base": "base", "digits": "digits"}
 WHEEL = {"base": "base", "fraction": "pure fraction"}
+LENGTH = {"denominator": "denominator", "length": "length"}
+ONE_AND_TWO = {"one": "denominator", "two": "denominator"}
 
 # A function, the kinds of its parameters, and good arguments: the base is 10, cuts are those of 7.
 FUNCTIONS = (
@@ -86,6 +91,17 @@ FUNCTIONS = (
     (texts.read_fraction, {"string": "string"}, ("5/28",)),
     (texts.expansion_text, BASE_AND_FRACTION, (10, (5, 28))),
     (texts.read_expansion, {"base": "base", "string": "string"}, (10, "1 ( 7 8 5 )")),
+    (residues.residues_with, LENGTH, (28, 6)),
+    (residues.spread, {"denominator": "denominator"}, (28,)),
+    (residues.greatest_period, {"denominator": "denominator"}, (28,)),
+    (residues.bases_with, LENGTH, (28, 6)),
+    (lengths.denominators_with, {"base": "base", "length": "length", "most": "most denominator"}, (10, 6, 30)),
+    (lengths.period_paper, BASE_AND_DENOMINATOR, (10, 28)),
+    (lengths.check_period, {**BASE_AND_DENOMINATOR, "paper": "period paper"}, (10, 28, (6, ((2, 6), (3, 2))))),
+    (sums.sum_of, {"fraction": "fraction", "other": "fraction"}, ((5, 28), (1, 6))),
+    (sums.sum_denominators, ONE_AND_TWO, (12, 18)),
+    (sums.sum_periods, {"base": "base", **ONE_AND_TWO}, (10, 49, 98)),
+    (sums.sum_example, {**ONE_AND_TWO, "denominator": "denominator"}, (12, 20, 30)),
 )
 
 HOMES = {
@@ -100,6 +116,9 @@ HOMES = {
     cyclic: ("multipliers", "is_cyclic", "cyclic_denominators"),
     dial: ("Dial",),
     texts: ("fraction_text", "read_fraction", "expansion_text", "read_expansion"),
+    residues: ("residues_with", "spread", "greatest_period", "bases_with"),
+    lengths: ("denominators_with", "period_paper", "check_period"),
+    sums: ("sum_of", "sum_denominators", "sum_periods", "sum_example"),
 }
 
 NO_FRACTIONS = (
@@ -201,6 +220,8 @@ WRONG = {
     "by": ODD_INTEGERS + (LAST_PLACE + 1, LAST_PLACE + 2, 2 * LAST_PLACE),
     "most": ODD_INTEGERS + (0, 401, 402, 5000),
     "string": (*[value for value in ODD_INTEGERS if not isinstance(value, str)], 0, 7, ("1/7",), ["( 1 )"], b"1/7"),
+    "length": ODD_INTEGERS + (0, 5001, 5002),
+    "most denominator": ODD_INTEGERS + (0, 5001, 5002),
 }
 
 # For pairs of wrong arguments: of each kind one value that is no integer and some that nearly fit.
@@ -221,6 +242,9 @@ SOME_WRONG = {
     "pure other": ([1, 7], (2, 4), (1, 14), (1, 13)),
     "most": (None, False, 0, 401),
     "string": (None, 7, b"1/7"),
+    "length": (None, True, 0, 5001),
+    "most denominator": ("7", False, 0, 5001),
+    "period paper": (None, (6,), (True, ()), (7, ()), (6, ()), (12, ((2, 1), (3, 4)))),
 }
 
 

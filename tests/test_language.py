@@ -7,6 +7,10 @@ from pathlib import Path
 
 PACKAGE = Path(__file__).resolve().parent.parent / "wheelnines"
 
+MODULES = (
+    "errors", "numbers", "digits", "pieces", "wheels", "cyclic", "dial", "texts", "desk", "residues", "lengths", "sums",
+)
+
 BUILTINS = {
     "len", "range", "enumerate", "zip", "min", "max", "sum", "abs", "sorted", "reversed", "int", "str", "bool",
     "bytes", "list", "tuple", "dict", "set", "frozenset", "isinstance", "ord", "repr", "any", "all", "divmod",
@@ -56,7 +60,7 @@ def nodes(kind):
 class Files(unittest.TestCase):
     def test_there_is_a_package(self):
         self.assertTrue((PACKAGE / "__init__.py").is_file())
-        for name in ("errors", "numbers", "digits", "pieces", "wheels", "cyclic", "dial", "texts"):
+        for name in MODULES:
             self.assertTrue((PACKAGE / f"{name}.py").is_file())
 
     def test_nothing_else_in_the_folder(self):
