@@ -190,3 +190,52 @@ def sum_denominators(one, two):
             total = first * two + second * one
             found.add(one * two // gcd(total, one * two))
     return tuple(sorted(found))
+
+
+def counted(row):
+    return tuple([(item, row.count(item)) for item in sorted(set(row))])
+
+
+def digit_at(base, fraction, place):
+    """The digit that is wanted of a division that is stopped behind it."""
+    return fraction[0] * base ** (place + 1) // fraction[1] % base
+
+
+def first_digits(base, fraction, count):
+    return tuple([digit_at(base, fraction, place) for place in range(count)])
+
+
+def fits(base, fraction, seen):
+    digits = first_digits(base, fraction, len(seen))
+    return all([item is None or item == digit for item, digit in zip(seen, digits)])
+
+
+def block_sum(base, size, weight, number):
+    """The blocks cut out of the row of all digits, and the powers in full."""
+    digits = []
+    while number > 0:
+        number, digit = divmod(number, base)
+        digits.append(digit)
+    blocks = [value(base, tuple(reversed(digits[at:at + size]))) for at in range(0, len(digits), size)]
+    return sum([block * weight ** at for at, block in enumerate(blocks)])
+
+
+def exponents_up_to(base, denominator, weight, most):
+    return [exponent for exponent in range(1, most + 1) if (base ** exponent - weight) % denominator == 0]
+
+
+def satisfies(base, denominator, fact):
+    word, *numbers = fact
+    head, repetend = expansion(base, (1 % denominator, denominator))
+    is_pure = gcd(base, denominator) == 1
+    if word == "period":
+        return len(repetend) == numbers[0]
+    if word == "head":
+        return len(head) == numbers[0]
+    if word == "wheels":
+        return is_pure and len(wheels(base, denominator)) == numbers[0]
+    if word == "power":
+        return pow(base, numbers[0], denominator) == numbers[1]
+    if not is_pure or numbers[0] not in all_cuts(base, denominator):
+        return False
+    return (power_sum(base, denominator, numbers[0]) % denominator == 0) is numbers[1]

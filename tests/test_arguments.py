@@ -4,14 +4,17 @@ import inspect
 import unittest
 
 from tests.case import FAR_INTEGERS, HUGE, NO_INTEGERS, Case, nested
-from wheelnines import cyclic, dial, digits, lengths, numbers, pieces, residues, sums, texts, wheels
+from wheelnines import blocks, counts, cyclic, dial, digits, facts, lengths
+from wheelnines import numbers, pieces, residues, seen, sums, texts, wheels
 from wheelnines.errors import (
     BadBase,
     BadDenominator,
     BadDigits,
+    BadFacts,
     BadFraction,
     BadNumber,
     BadPaper,
+    BadSeen,
     BadText,
     Nothing,
     TooGreat,
@@ -39,10 +42,20 @@ ERRORS = {
     "length": BadNumber,
     "most denominator": BadNumber,
     "period paper": BadPaper,
+    "seen": BadSeen,
+    "most seen": BadNumber,
+    "sure count": BadNumber,
+    "size": BadNumber,
+    "weight": BadNumber,
+    "number": BadNumber,
+    "exponent paper": BadPaper,
+    "facts": BadFacts,
+    "most by": BadNumber,
+    "most base": BadNumber,
 }
 
 # What an error keeps, if that is not the wrong value itself.
-KEPT = {"paper": "form", "string": None, "period paper": "form"}
+KEPT = {"paper": "form", "string": None, "period paper": "form", "exponent paper": "form", "facts": None}
 
 BASE_AND_DENOMINATOR = {"base": "base", "denominator": "denominator"}
 PLACE = {"base": "base", "fraction": "fraction", "place": "place"}
@@ -54,6 +67,9 @@ BASE_AND_DIGITS = {"base": "base", "digits": "digits"}
 WHEEL = {"base": "base", "fraction": "pure fraction"}
 LENGTH = {"denominator": "denominator", "length": "length"}
 ONE_AND_TWO = {"one": "denominator", "two": "denominator"}
+SEEN = {"base": "base", "seen": "seen", "most": "most seen"}
+WEIGHT = {"base": "base", "denominator": "denominator", "weight": "weight"}
+FACTS = (("period", 6), ("head", 2), ("power", 1, 10))
 
 # A function, the kinds of its parameters, and good arguments: the base is 10, cuts are those of 7.
 FUNCTIONS = (
@@ -102,6 +118,31 @@ FUNCTIONS = (
     (sums.sum_denominators, ONE_AND_TWO, (12, 18)),
     (sums.sum_periods, {"base": "base", **ONE_AND_TWO}, (10, 49, 98)),
     (sums.sum_example, {**ONE_AND_TWO, "denominator": "denominator"}, (12, 20, 30)),
+    (counts.digit_sum, WHEEL, (10, (2, 7))),
+    (counts.digit_counts, WHEEL, (10, (2, 7))),
+    (counts.all_counts, PURE, (10, 13)),
+    (seen.need_seen, {"base": "base", "value": "seen"}, (10, (1, None, 2))),
+    (seen.fits, {"base": "base", "fraction": "fraction", "seen": "seen"}, (10, (5, 28), (1, None, 8))),
+    (seen.fitting, SEEN, (10, (1, None, 8), 40)),
+    (seen.simplest, SEEN, (10, (1, None, 8), 40)),
+    (seen.sure_digits, {**SEEN, "count": "sure count"}, (10, (1, 7, 8), 40, 8)),
+    (
+        blocks.block_sum,
+        {"base": "base", "size": "size", "weight": "weight", "number": "number"},
+        (10, 2, -3, 142857),
+    ),
+    (
+        blocks.keeps_remainders,
+        {**BASE_AND_DENOMINATOR, "size": "size", "weight": "weight"},
+        (10, 7, 3, -1),
+    ),
+    (blocks.exponents, WEIGHT, (10, 28, 4)),
+    (blocks.exponent_paper, WEIGHT, (10, 28, 1)),
+    (blocks.check_exponent, {**WEIGHT, "paper": "exponent paper"}, (10, 28, 4, ("exponent", 10))),
+    (facts.need_facts, {"value": "facts"}, (FACTS,)),
+    (facts.is_satisfied, {**BASE_AND_DENOMINATOR, "facts": "facts"}, (10, 28, FACTS)),
+    (facts.denominators_by, {"base": "base", "facts": "facts", "most": "most by"}, (10, FACTS, 40)),
+    (facts.bases_by, {"denominator": "denominator", "facts": "facts", "most": "most base"}, (28, FACTS, 40)),
 )
 
 HOMES = {
@@ -119,6 +160,10 @@ HOMES = {
     residues: ("residues_with", "spread", "greatest_period", "bases_with"),
     lengths: ("denominators_with", "period_paper", "check_period"),
     sums: ("sum_of", "sum_denominators", "sum_periods", "sum_example"),
+    counts: ("digit_sum", "digit_counts", "all_counts"),
+    seen: ("need_seen", "fits", "fitting", "simplest", "sure_digits"),
+    blocks: ("block_sum", "keeps_remainders", "exponents", "exponent_paper", "check_exponent"),
+    facts: ("need_facts", "is_satisfied", "denominators_by", "bases_by"),
 }
 
 NO_FRACTIONS = (
@@ -202,6 +247,18 @@ NO_HEADS = (
 
 ODD_INTEGERS = NO_INTEGERS + FAR_INTEGERS
 
+
+def is_row(value):
+    """Whether this is a tuple of 1 to 10 items: as FACTS it is refused by the number of an item."""
+    return isinstance(value, tuple) and 1 <= len(value) <= 10
+
+
+# Pairs of an integer and a tuple, of which the first may be a period, are no wrong forms of its certificate.
+NO_PAPERS = tuple([value for value in ODD_INTEGERS if value != (1, (7,))])
+
+# A None in a tuple is no digit, but may be SEEN.
+NO_HEADS_OR_NONE = tuple([value for value in NO_HEADS if value not in ((1, None), (None,))])
+
 NO_PURE_FRACTIONS = NO_FRACTIONS + ((1, 2), (1, 5), (3, 10), (1, 14), (1, 35), (13, 14), (1, 5000), (2499, 4998))
 
 WRONG = {
@@ -222,6 +279,17 @@ WRONG = {
     "string": (*[value for value in ODD_INTEGERS if not isinstance(value, str)], 0, 7, ("1/7",), ["( 1 )"], b"1/7"),
     "length": ODD_INTEGERS + (0, 5001, 5002),
     "most denominator": ODD_INTEGERS + (0, 5001, 5002),
+    "period paper": NO_PAPERS,
+    "seen": NO_HEADS_OR_NONE + ((), (None,) * 21, (0,) * 21, (None, 10), (None, True), [None], (None, ())),
+    "most seen": ODD_INTEGERS + (0, 201, 202),
+    "sure count": ODD_INTEGERS + (61, 62, 400),
+    "size": ODD_INTEGERS + (0, 401, 402),
+    "weight": NO_INTEGERS + (1001, 1002, -1001, -1002, HUGE, -HUGE),
+    "number": NO_INTEGERS + (-1, -HUGE, HUGE, 10 ** 60 + 1, 10 ** 60 + 2),
+    "exponent paper": NO_PAPERS,
+    "facts": (*[value for value in ODD_INTEGERS if not is_row(value)], (), [], list(FACTS), FACTS * 4, (None,) * 11),
+    "most by": ODD_INTEGERS + (0, 1001, 1002),
+    "most base": ODD_INTEGERS + (0, 1, 1001, 1002),
 }
 
 # For pairs of wrong arguments: of each kind one value that is no integer and some that nearly fit.
@@ -245,6 +313,16 @@ SOME_WRONG = {
     "length": (None, True, 0, 5001),
     "most denominator": ("7", False, 0, 5001),
     "period paper": (None, (6,), (True, ()), (7, ()), (6, ()), (12, ((2, 1), (3, 4)))),
+    "seen": (None, (), (10,), (True,), [1], (None,) * 21),
+    "most seen": ("7", True, 0, 201),
+    "sure count": (None, False, -1, 61),
+    "size": ("3", True, 0, 401),
+    "weight": (None, False, -1001, 1001),
+    "number": ("7", True, -1, 10 ** 60 + 1),
+    "exponent paper": (None, ("exponent",), ("exponent", 3), ("exponent", True), ("never", ())),
+    "facts": (None, (), [("head", 0)], FACTS * 4),
+    "most by": ("7", True, 0, 1001),
+    "most base": ("7", True, 1, 1001),
 }
 
 
@@ -299,6 +377,36 @@ class Passing(Case):
         fraction = [2, 14]
         self.fails(BadFraction, [2, 14], numbers.need_fraction, fraction)
         self.assertEqual(fraction, [2, 14])
+
+
+class GreatestArguments(Case):
+    def test_of_the_second_half(self):
+        weights = (-1000, 1000)
+        self.same(residues.residues_with(5000, 5000), ())
+        self.same(residues.bases_with(5000, 5000), ())
+        self.same(residues.greatest_period(5000), 500)
+        self.same(sum([many for _, many in residues.spread(5000)]), 2000)
+        self.same(lengths.denominators_with(1000, 5000, 5000), ())
+        self.same(lengths.check_period(1000, 5000, lengths.period_paper(1000, 5000)), 1)
+        self.same(sums.sum_of((4999, 5000), (4999, 5000)), (2499, 2500))
+        self.same(sums.sum_denominators(5000, 5000)[-1], 2500)
+        self.same(sums.sum_periods(1000, 5000, 5000), (1,))
+        self.fails(Nothing, 5000, sums.sum_example, 5000, 5000, 5000)
+        self.same(sum([many for _, many in counts.all_counts(1000, 4999)]), 4998)
+        self.same(counts.digit_sum(999, (4999, 5000)) > 0, True)
+        self.same(seen.fits(1000, (4999, 5000), (999, 800) + (0,) * 18), True)
+        self.same(seen.fitting(1000, (999,) * 20, 200), ())
+        self.same(seen.simplest(1000, (999,) * 20, 200), None)
+        self.same(seen.sure_digits(1000, (500,) + (None,) * 19, 200, 60), (500,) + (0,) * 59)
+        for weight in weights:
+            self.same(blocks.block_sum(1000, 400, weight, 10 ** 60), 10 ** 60)
+            self.same(blocks.keeps_remainders(1000, 5000, 400, weight), False)
+            self.same(blocks.exponents(1000, 5000, weight), {-1000: None, 1000: (1, 0)}[weight])
+        self.same(blocks.exponent_paper(1000, 5000, -1000), ("never", (1000, 0, 0)))
+        self.same(blocks.check_exponent(999, 5000, 1, ("exponent", 10000)), "exponent")
+        self.same(facts.is_satisfied(1000, 5000, (("power", LAST_PLACE, 4999), ("head", 20)) * 5), False)
+        self.same(facts.denominators_by(1000, (("wheels", 5000),), 1000), ())
+        self.same(facts.bases_by(5000, (("balanced", 5000, True),) * 10, 1000), ())
 
 
 class WrongArguments(Case):

@@ -8,7 +8,8 @@ from pathlib import Path
 PACKAGE = Path(__file__).resolve().parent.parent / "wheelnines"
 
 MODULES = (
-    "errors", "numbers", "digits", "pieces", "wheels", "cyclic", "dial", "texts", "desk", "residues", "lengths", "sums",
+    "errors", "numbers", "digits", "pieces", "wheels", "cyclic", "dial", "texts", "desk",
+    "residues", "lengths", "sums", "counts", "seen", "blocks", "facts",
 )
 
 BUILTINS = {

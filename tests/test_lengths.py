@@ -1,6 +1,7 @@
 """Points 4 and 12 and wheelnines/lengths.py: denominators with a period, certificates of periods."""
 
 import unittest
+from fractions import Fraction
 from math import gcd
 
 from tests import plain
@@ -213,6 +214,11 @@ class CheckPeriod(Case):
         # What is 0 for the pure part 1 would be False.
         self.refused("pairs", 10, 1, (2, ((2, False),)))
         self.refused("pairs", 10, 1, (2, ((2, 0),)))
+
+    def test_what_only_equals_an_integer(self):
+        self.refused("pairs", 3, 4, (2, ((2, Fraction(3)),)))
+        self.refused("pairs", 3, 4, (2, ((Fraction(2), 3),)))
+        self.refused("form", 3, 4, (Fraction(2), ((2, 3),)))
 
     def test_multiples_and_divisors(self):
         self.refused("pairs", 10, 7, (12, ((2, 1), (3, 4))))

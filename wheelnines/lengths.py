@@ -62,7 +62,7 @@ def check_period(base, denominator, paper):
     pure = pure_part(base, denominator)
     if not is_repeated(base, pure, length):
         raise BadPaper("power")
-    # True equals 1, so the items are looked at before they are compared.
+    # What is no integer may equal one, so the items are looked at before they are compared.
     if not all([are_two_integers(row) for row in pairs]) or pairs != prime_rests(base, pure, length):
         raise BadPaper("pairs")
     if not is_shortest(pure, pairs):

@@ -2,6 +2,7 @@
 
 from math import gcd
 
+from wheelnines.counts import counted
 from wheelnines.errors import BadNumber
 from wheelnines.numbers import MOST_BASE, MOST_DENOMINATOR, is_within, need_denominator
 
@@ -45,11 +46,7 @@ def residues_with(denominator, length):
 def spread(denominator):
     """The ascending tuple of pairs of a length that occurs and the number of RESIDUES with it."""
     need_denominator(denominator)
-    counts = {}
-    for length in residue_lengths(denominator):
-        if length != 0:
-            counts[length] = counts.get(length, 0) + 1
-    return tuple(sorted(list(counts.items())))
+    return counted([length for length in residue_lengths(denominator) if length != 0])
 
 
 def greatest_period(denominator):
